@@ -273,11 +273,11 @@ func TestEntries(t *testing.T) {
 	entries(0, 0, api.ErrNone)
 	wrong := super()
 	wrong.Slots = 0
-	if _, _, l, e := attach.Entries(wrong, nil); len(l) != 0 || e != api.ErrSize {
-		t.Error(int(e))
+	if w, seq, l, e := attach.Entries(wrong, nil); w != 0 || seq != 0 || len(l) != 0 || e != api.ErrSize {
+		t.Error(w, seq, int(e))
 	}
-	if _, _, l, e := attach.Entries(super(), nil); len(l) != 0 || e != api.ErrNil {
-		t.Error(int(e))
+	if w, seq, l, e := attach.Entries(super(), nil); w != 0 || seq != 0 || len(l) != 0 || e != api.ErrNil {
+		t.Error(w, seq, int(e))
 	}
 }
 

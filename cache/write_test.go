@@ -213,6 +213,46 @@ func TestDirtySlotsStay(t *testing.T) {
 }
 
 // P14.3
+func TestNothingIsCommittedForNoSlot(t *testing.T) {
+	r := scrubbed(t, 0)
+	for n := range 3 {
+		r.write(n, 1, cache.Back, api.OK)
+	}
+	r.back.Plan(dev.Fails)
+	r.write(5, 2, cache.Back, api.ErrWrite) // and not ErrFlush
+	r.records()
+	r.write(5, 2, cache.Through, api.OK)
+	r.records()
+}
+
+// P14.3
+func TestErrorsOfEvictAreThoseOfWrites(t *testing.T) {
+	for _, mode := range []int{cache.Back, cache.Through} {
+		r := scrubbed(t, 0)
+		for n := range 3 {
+			r.write(n, 1, cache.Through, api.OK)
+		}
+		for range 4 {
+			r.ok(r.Clean(2))
+		}
+		r.back.Plan(dev.Fails) // of the checkpoint that makes room
+		r.write(5, 2, mode, api.ErrFlush)
+		r.at(0, 0, false)
+		r.backing(5, nought, nought)
+		r.write(5, 2, mode, api.OK)
+		r.at(0, -1, false)
+		r.at(5, 0, mode == cache.Back)
+		r = scrubbed(t, api.MaxSeq-3)
+		for n := range 3 {
+			r.write(n, 1, cache.Through, api.OK)
+		}
+		r.write(5, 2, mode, api.ErrOver)
+		r.backing(5, nought, nought)
+		r.states(slots.Live, slots.Live, slots.Live)
+	}
+}
+
+// P14.3
 func TestCleanSlotsGo(t *testing.T) {
 	r := scrubbed(t, 0)
 	for n := range 3 {

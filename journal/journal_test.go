@@ -224,10 +224,14 @@ func TestCommitFlushesFirst(t *testing.T) {
 	if d.Planned() != 1 {
 		t.Error("nothing waits, and it is flushed twice")
 	}
-	d = device(t, 20)
-	j = made(t, d, 0, 5, 0)
+}
+
+// P11.3
+func TestCommitStopsAtTheFirstError(t *testing.T) {
+	d := device(t, 20)
+	j := made(t, d, 0, 5, 0)
 	d.Write(9, api.Block{1})
-	add(t, j, 1, record(1), record(2))
+	add(t, j, 1, record(1), record(2), record(3))
 	if d.Open() != 1 {
 		t.Error("Add writes")
 	}
@@ -236,24 +240,24 @@ func TestCommitFlushesFirst(t *testing.T) {
 	if d.Open() != 1 {
 		t.Error("records were written ahead of the flush")
 	}
-	counts(t, j, 3, 3, 2)
-	d.Plan(dev.Goes, dev.Goes, dev.Fails, dev.Fails)
+	counts(t, j, 4, 2, 3)
+	d.Plan(dev.Goes, dev.Goes, dev.Fails)
 	commit(t, j, api.ErrWrite)
-	if b, _ := d.Firm(9); b != (api.Block{1}) || d.Open() != 1 || d.Planned() != 1 {
-		t.Error("what came ahead is not firm, or it goes on", d.Open(), d.Planned())
+	if b, _ := d.Firm(9); b != (api.Block{1}) || d.Open() != 1 {
+		t.Error("what came ahead is not firm, or it goes on", d.Open())
 	}
-	counts(t, j, 3, 3, 2)
-	d.Flush() // it takes the fate that is left
-	d.Plan(dev.Goes, dev.Goes, dev.Goes, dev.Fails)
+	counts(t, j, 4, 2, 3)
+	d.Plan(dev.Goes, dev.Goes, dev.Goes, dev.Goes, dev.Fails)
 	commit(t, j, api.ErrFlush)
-	if d.Open() != 2 || d.Planned() != 0 {
-		t.Error("both were written", d.Open(), d.Planned())
+	if d.Open() != 3 || d.Planned() != 0 {
+		t.Error("all are written", d.Open(), d.Planned())
 	}
-	counts(t, j, 3, 3, 2)
+	counts(t, j, 4, 2, 3)
 	commit(t, j, api.OK)
-	counts(t, j, 3, 3, 0)
-	stands(t, d, 0, at(record(1), 1, 0))
-	stands(t, d, 1, at(record(2), 2, 0))
+	counts(t, j, 4, 2, 0)
+	for i := range 3 {
+		stands(t, d, i, at(record(i+1), i+1, 0))
+	}
 	if d.Open() != 0 {
 		t.Error("records are not firm")
 	}

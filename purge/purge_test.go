@@ -198,6 +198,9 @@ func TestBegin(t *testing.T) {
 		t.Error("another one of that number", int(e))
 	}
 	r.begin(1, 2, 3) // the same again
+	r.ssd.Plan(goes(3)...)
+	r.begin(2, 2, 3)
+	r.planned(1, 0) // it is read, written and flushed, and not asked for
 	for i, c := range []struct {
 		plan []int
 		want api.Errno
@@ -372,6 +375,42 @@ func TestTheIntentIsPutFirst(t *testing.T) {
 	r.tick(p, purge.Going, api.OK)
 	if x, e := r.l.Intents.Get(0); x != p.Intent() || e != api.OK {
 		t.Error(x, int(e))
+	}
+}
+
+// P18.2
+func TestErrorsOfDrop(t *testing.T) {
+	r := filled(t)
+	for range 4 {
+		r.ok(r.Clean(6))
+	}
+	p := r.begin(0, 2, 3)
+	r.back.Plan(dev.Fails) // of the checkpoint that makes room
+	r.tick(p, purge.Going, api.ErrFlush)
+	for _, n := range []int{2, 4} {
+		if _, in := r.Place(n); !in {
+			t.Error("block", n, "was dropped")
+		}
+	}
+	for range 3 {
+		r.tick(p, purge.Going, api.OK)
+	}
+	r.tick(p, purge.Done, api.OK)
+}
+
+// P18.2
+func TestTheLedgerIsToldOfSlotsAlone(t *testing.T) {
+	s := super()
+	s.Blocks = 40
+	r := scrubbed(t, s)
+	for n := range 4 {
+		r.write(n, cache.Back)
+	}
+	p := r.begin(0, 17, 4) // backing sectors of the numbers that slots have on the other device
+	r.tick(p, purge.Going, api.OK)
+	r.tick(p, purge.Done, api.OK)
+	for n := range 4 {
+		r.owners(n, n)
 	}
 }
 

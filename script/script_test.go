@@ -317,6 +317,7 @@ func TestModel(t *testing.T) {
 	}{
 		{0, []script.Op{op(script.Write, 0, 1, 1)}, nil},
 		{-1, nil, nil}, {least, nil, nil},
+		{1, []script.Op{op(script.Write, 0, 1, 1)}, []int{1}},
 		{3, nil, []int{0, 0, 0}},
 		{3, []script.Op{op(script.Write, 0, 2, 1), op(script.Firm, 1, 2, 2)}, []int{1, 2, 2}},
 		{3, []script.Op{op(script.Write, 0, 3, 1), op(script.Discard, 1, 1, 5)}, []int{1, 0, 1}},

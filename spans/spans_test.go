@@ -220,6 +220,12 @@ func TestCopyAndSame(t *testing.T) {
 	if spans.Same(set(t, api.Span{From: 1, N: 1}), set(t, api.Span{From: 2, N: 1})) || spans.Same(set(t, api.Span{From: 1, N: 1}), set(t, api.Span{From: 1, N: 2})) {
 		t.Error("other numbers are the same")
 	}
+	long := set(t, api.Span{From: 1, N: 1}, api.Span{From: 5, N: 1})
+	for _, short := range []*spans.Set{set(t), set(t, api.Span{From: 1, N: 1})} {
+		if spans.Same(short, long) || spans.Same(long, short) {
+			t.Error("a piece is the whole")
+		}
+	}
 }
 
 // P3.2

@@ -186,28 +186,29 @@ func TestOpenResumesWhatWaits(t *testing.T) {
 	r.polls(1, purge.Done, api.OK) // there is a certificate
 }
 
-// commands are all that answer an error.
-func commands(v *volume.Volume) []func() api.Errno {
-	return []func() api.Errno{
-		func() api.Errno { _, e := v.Read(span(99, 1)); return e },
-		func() api.Errno { return v.Write(99, true) },
-		func() api.Errno { return v.Discard(span(99, 1)) },
-		func() api.Errno { return v.Flush() },
-		func() api.Errno { _, e := v.Purge(span(99, 1)); return e },
-		func() api.Errno { _, e := v.Poll(99); return e },
-		func() api.Errno { return v.Tick() },
-		func() api.Errno { _, e := v.Certs(); return e },
-		func() api.Errno { _, e := v.Failures(); return e },
-		func() api.Errno { return v.Mode(99) },
-		func() api.Errno { return v.Detach() },
+// commands are all that answer an error; each tells how much it answers beside it.
+func commands(v *volume.Volume) []func() (int, api.Errno) {
+	none := func(e api.Errno) (int, api.Errno) { return 0, e }
+	return []func() (int, api.Errno){
+		func() (int, api.Errno) { l, e := v.Read(span(99, 1)); return len(l), e },
+		func() (int, api.Errno) { return none(v.Write(99, true)) },
+		func() (int, api.Errno) { return none(v.Discard(span(99, 1))) },
+		func() (int, api.Errno) { return none(v.Flush()) },
+		func() (int, api.Errno) { return v.Purge(span(99, 1)) },
+		func() (int, api.Errno) { return v.Poll(99) },
+		func() (int, api.Errno) { return none(v.Tick()) },
+		func() (int, api.Errno) { l, e := v.Certs(); return len(l), e },
+		func() (int, api.Errno) { l, e := v.Failures(); return len(l), e },
+		func() (int, api.Errno) { return none(v.Mode(99)) },
+		func() (int, api.Errno) { return none(v.Detach()) },
 	}
 }
 
 // P20.1
 func TestNilAndDetached(t *testing.T) {
 	for i, f := range commands(nil) {
-		if e := f(); e != api.ErrNil {
-			t.Error(i, int(e))
+		if n, e := f(); n != 0 || e != api.ErrNil {
+			t.Error(i, n, int(e))
 		}
 	}
 	var v *volume.Volume
@@ -220,8 +221,8 @@ func TestNilAndDetached(t *testing.T) {
 	r.ssd.Plan(dev.Fails)
 	r.back.Plan(dev.Fails)
 	for i, f := range commands(r.Volume) {
-		if e := f(); e != api.ErrState {
-			t.Error(i, int(e))
+		if n, e := f(); n != 0 || e != api.ErrState {
+			t.Error(i, n, int(e))
 		}
 	}
 	if s := r.Stats(); s != (volume.Stats{Cached: 1, Free: 3}) || r.Blocks() != 10 {
