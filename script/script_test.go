@@ -428,7 +428,7 @@ func faults(n *dice, l []script.Op) (all []script.Op) {
 	return all
 }
 
-// P21.4
+// P21.4, T2
 func TestNothingHangsOnWhatWasPurged(t *testing.T) {
 	const from, many = 3, 4 // the span that is purged
 	certified := 0
